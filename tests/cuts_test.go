@@ -95,6 +95,20 @@ func heldFlows(net impl.Net) [][]int {
 	return flows
 }
 
+// forNoSides tries what are no sides of a net, and sides of what is no net.
+func forNoSides(try func(net impl.Net, side int)) {
+	for _, net := range goodNets() {
+		for _, side := range badSides(net) {
+			try(net, side)
+		}
+	}
+	for _, net := range badNets() {
+		for _, side := range []int{-1, 0, 1, 2, 3} {
+			try(net, side)
+		}
+	}
+}
+
 // forEnds tries each two different nodes of each net, in both orders.
 func forEnds(nets []impl.Net, try func(net impl.Net, from, to int)) {
 	for _, net := range nets {
@@ -303,22 +317,11 @@ func TestP10LeastAmountsThatLeadBackAreTakenAway(t *testing.T) {
 }
 
 func TestP10OthersHaveNoRoom(t *testing.T) {
-	none := func(net impl.Net, side int) {
-		t.Helper()
+	forNoSides(func(net impl.Net, side int) {
 		if n, ok := impl.RoomOf(net, side); n != 0 || ok {
-			t.Errorf("the room of %d in %v is %d, %v", side, net, n, ok)
+			t.Fatalf("the room of %d in %v is %d, %v", side, net, n, ok)
 		}
-	}
-	for _, net := range goodNets() {
-		for _, side := range badSides(net) {
-			none(net, side)
-		}
-	}
-	for _, net := range badNets() {
-		for _, side := range []int{-1, 0, 1, 2, 3} {
-			none(net, side)
-		}
-	}
+	})
 }
 
 func TestP11PipesLeaveOneSideOrTheOtherOneOrNone(t *testing.T) {
@@ -360,22 +363,11 @@ func TestP11PlacesAreAscending(t *testing.T) {
 }
 
 func TestP11OthersAreNotLeft(t *testing.T) {
-	none := func(net impl.Net, side int) {
-		t.Helper()
+	forNoSides(func(net impl.Net, side int) {
 		if leaving := impl.LeavingOf(net, side); len(leaving) != 0 {
-			t.Errorf("%v leave %d in %v", leaving, side, net)
+			t.Fatalf("%v leave %d in %v", leaving, side, net)
 		}
-	}
-	for _, net := range goodNets() {
-		for _, side := range badSides(net) {
-			none(net, side)
-		}
-	}
-	for _, net := range badNets() {
-		for _, side := range []int{-1, 0, 1, 2, 3} {
-			none(net, side)
-		}
-	}
+	})
 }
 
 func TestP12TheLeastRoomIsOneOfACut(t *testing.T) {
