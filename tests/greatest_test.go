@@ -163,6 +163,11 @@ func wantPushed(net impl.Net, flow []int, from, to int) []int {
 	if way == nil {
 		return nil
 	}
+	return wantAlong(net, flow, way, func([]int) bool { return true })
+}
+
+// wantAlong pushes one by one along a way, as long as all pipes hold it, and it fits.
+func wantAlong(net impl.Net, flow, way []int, fits func(flow []int) bool) []int {
 	for {
 		more := slices.Clone(flow)
 		for _, step := range way {
@@ -172,6 +177,9 @@ func wantPushed(net impl.Net, flow []int, from, to int) []int {
 			if more[at] < p.Least || more[at] > p.Most {
 				return flow
 			}
+		}
+		if !fits(more) {
+			return flow
 		}
 		flow = more
 	}
