@@ -1,5 +1,7 @@
 package impl
 
+import "slices"
+
 // MaxNodes is the maximum number of nodes of a net, MaxPipes that of pipes, MaxHold the greatest amount that a pipe may hold, MaxCost the greatest cost, without its sign, and MaxFlow the greatest amount of a flow.
 const (
 	MaxNodes = 5
@@ -39,15 +41,7 @@ func NetOk(net Net) bool {
 
 // FlowOk reports whether a flow has an amount for each pipe of a net (NetOk), each in 0..MaxFlow.
 func FlowOk(net Net, flow []int) bool {
-	if !NetOk(net) || len(flow) != len(net.Pipes) {
-		return false
-	}
-	for _, amount := range flow {
-		if !within(amount, 0, MaxFlow) {
-			return false
-		}
-	}
-	return true
+	return NetOk(net) && rowOk(flow, len(net.Pipes), 0, MaxFlow)
 }
 
 // ExcessAt returns the amounts of a flow (FlowOk) in all pipes to a node of the net, less those in all pipes from it, and true; 0 and false for others.
@@ -111,6 +105,10 @@ func TurnedNet(net Net) Net {
 
 func within(n, least, most int) bool {
 	return least <= n && n <= most
+}
+
+func rowOk(row []int, count, least, most int) bool {
+	return len(row) == count && !slices.ContainsFunc(row, func(n int) bool { return !within(n, least, most) })
 }
 
 // nodeOk takes only the number of nodes, as a pipe is checked before its net is known to be one.
