@@ -545,11 +545,16 @@ func TestCutsOnlyReadAndShareNothing(t *testing.T) {
 // spoiledAgain writes over a result, and the memory behind it, and asks once more: nothing of it may come back.
 func spoiledAgain(t *testing.T, ask func() []int) {
 	t.Helper()
+	spoiledWith(t, -7, ask)
+}
+
+func spoiledWith[T comparable](t *testing.T, spoil T, ask func() []T) {
+	t.Helper()
 	first := ask()
 	want := slices.Clone(first)
 	whole := first[:cap(first)]
 	for i := range whole {
-		whole[i] = -7
+		whole[i] = spoil
 	}
 	if again := ask(); !slices.Equal(again, want) {
 		t.Fatalf("asked again it is %v, not %v", again, want)
