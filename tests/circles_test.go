@@ -90,31 +90,43 @@ func allCirculations(net impl.Net) [][]int {
 // circling tells what a test of circulations has come across.
 type circling struct{ pushes, back, past, full, given, taken int }
 
-// wantCirculation pushes one by one, from the first node with too much to the first one with a lack that can be come to.
 func wantCirculation(net impl.Net, seen *circling) ([]int, bool) {
-	flow := leastFlow(net)
+	return wantFed(net, leastFlow(net), make([]int, net.Nodes), seen)
+}
+
+// overs tells for each node by how much its excess is more than it needs.
+func overs(net impl.Net, flow, needs []int) []int {
+	over := excesses(net, flow)
+	for node, need := range needs {
+		over[node] -= need
+	}
+	return over
+}
+
+// wantFed pushes one by one, from the first node with too much to the first one with a lack that can be come to.
+func wantFed(net impl.Net, flow, needs []int, seen *circling) ([]int, bool) {
 	for {
-		excess := excesses(net, flow)
-		from := slices.IndexFunc(excess, func(n int) bool { return n > 0 })
+		over := overs(net, flow, needs)
+		from := slices.IndexFunc(over, func(n int) bool { return n > 0 })
 		if from < 0 {
 			return flow, true
 		}
-		way, to := wantWayToLack(net, flow, from, seen)
+		way, to := wantWayToLack(net, flow, over, from, seen)
 		if way == nil {
 			return nil, false
 		}
 		more := wantAlong(net, flow, way, func(flow []int) bool {
-			after := excesses(net, flow)
+			after := overs(net, flow, needs)
 			return after[from] >= 0 && after[to] <= 0
 		})
-		seen.push(excess, excesses(net, more), way, from, to)
+		seen.push(over, overs(net, more, needs), way, from, to)
 		flow = more
 	}
 }
 
-func wantWayToLack(net impl.Net, flow []int, from int, seen *circling) (way []int, to int) {
+func wantWayToLack(net impl.Net, flow, over []int, from int, seen *circling) (way []int, to int) {
 	past := false
-	for node, n := range excesses(net, flow) {
+	for node, n := range over {
 		if n >= 0 {
 			continue
 		}

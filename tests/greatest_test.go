@@ -12,11 +12,27 @@ import (
 func freeNets() []impl.Net {
 	nets := []impl.Net{zigzagNet()}
 	for _, net := range goodNets() {
-		net = copied(net)
-		for at := range net.Pipes {
-			net.Pipes[at].Least = 0
+		nets = append(nets, freed(net))
+	}
+	return nets
+}
+
+// freed is the net with pipes that may all be empty.
+func freed(net impl.Net) impl.Net {
+	net = copied(net)
+	for at := range net.Pipes {
+		net.Pipes[at].Least = 0
+	}
+	return net
+}
+
+// boundNets are nets with a pipe that may not be empty.
+func boundNets() []impl.Net {
+	nets := []impl.Net{leastNet(), {Nodes: 2, Pipes: []impl.Pipe{{From: 0, To: 1, Most: 2}, {From: 0, To: 1, Least: 1, Most: 1}}}}
+	for _, net := range goodNets() {
+		if !allZero(leastFlow(net)) {
+			nets = append(nets, net)
 		}
-		nets = append(nets, net)
 	}
 	return nets
 }
@@ -506,13 +522,7 @@ func TestP19PushedAsLongAsThereIsAWay(t *testing.T) {
 // forNoGreatest tries what has no greatest flow: what are no ends, and nets with pipes that may not be empty.
 func forNoGreatest(try func(net impl.Net, from, to int)) {
 	forNoEnds(try)
-	bound := []impl.Net{leastNet(), {Nodes: 2, Pipes: []impl.Pipe{{From: 0, To: 1, Most: 2}, {From: 0, To: 1, Least: 1, Most: 1}}}}
-	for _, net := range goodNets() {
-		if !allZero(leastFlow(net)) {
-			bound = append(bound, net)
-		}
-	}
-	forEnds(bound, try)
+	forEnds(boundNets(), try)
 }
 
 func TestP19OthersHaveNoGreatestFlow(t *testing.T) {
