@@ -95,12 +95,10 @@ func TurnedNet(net Net) Net {
 	if !NetOk(net) {
 		return Net{}
 	}
-	turned := Net{Nodes: net.Nodes, Pipes: make([]Pipe, len(net.Pipes))}
-	for at, p := range net.Pipes {
+	return remade(net, func(_ int, p Pipe) Pipe {
 		p.From, p.To = p.To, p.From
-		turned.Pipes[at] = p
-	}
-	return turned
+		return p
+	})
 }
 
 func within(n, least, most int) bool {
@@ -141,6 +139,14 @@ func sumOver(pipes []Pipe, amount func(at int, p Pipe) int) int {
 		sum += amount(at, p)
 	}
 	return sum
+}
+
+func remade(net Net, remake func(at int, p Pipe) Pipe) Net {
+	other := Net{Nodes: net.Nodes, Pipes: make([]Pipe, len(net.Pipes))}
+	for at, p := range net.Pipes {
+		other.Pipes[at] = remake(at, p)
+	}
+	return other
 }
 
 // joinedRows expects rows of the same length.
